@@ -8,6 +8,9 @@ GREATEST = 2 ** 63 - 1
 
 DONE = [0, 0]
 REFUSED = [0, -22]
+NO_WAIT = [0, -11]
+NOT_TOLD = [0, -2]
+NO_ROOM = [0, -28]
 
 
 def start(inputs, *gates):
@@ -33,12 +36,32 @@ def get(signal):
     return [3, signal]
 
 
+def when(signal):
+    return [4, signal]
+
+
+def why(signal, room=GREATEST):
+    return [5, signal, room]
+
+
+def longest():
+    return [6]
+
+
 def told(number):
     return [0, number]
 
 
 def waited(unsure, time):
     return [1, unsure, time]
+
+
+def timed(time):
+    return [1, 0, time]
+
+
+def way(*signals):
+    return [2, len(signals)] + list(signals)
 
 
 def joined(calls):
@@ -75,6 +98,9 @@ def looked_at(gate, on):
     return 0 if 1 in pair else 1 if pair == (0, 0) else 2
 
 
+NEVER = float("inf")
+
+
 class Words:
     """The calls done round by round as the document tells them, however long that takes."""
 
@@ -87,6 +113,8 @@ class Words:
         self.ins = [0] * inputs
         self.put_since = [True] * inputs
         self.before = [2] * len(gates)
+        self.when = None
+        self.waits = []
         return DONE
 
     def tk_set(self, which, bit):
@@ -114,16 +142,15 @@ class Words:
 
     def times(self, always, end):
         """The least times that are so: from never on, lowered while one can be."""
-        never = float("inf")
         on = self.ins + end
-        when = [0] * self.inputs + [never if x == 2 else 0 for x in always]
+        when = [0] * self.inputs + [NEVER if x == 2 else 0 for x in always]
         while True:
             after = list(when)
             for place, gate in enumerate(self.gates):
                 if always[place] == 2:
                     after[self.inputs + place] = self.soonest(gate, on, when) + gate[3]
             if after == when:
-                return [time for time in when[self.inputs:] if time != never]
+                return when
             when = after
 
     def soonest(self, gate, on, when):
@@ -137,28 +164,51 @@ class Words:
     def tk_wait(self):
         always = self.always()
         end = self.end(always)
-        times = self.times(always, end)
+        self.when = self.times(always, end)
+        self.waits.append(max([time for time in self.when[self.inputs:] if time != NEVER], default=0))
         self.before = end
         self.put_since = [False] * self.inputs
-        return waited(end.count(2), max(times, default=0))
+        return waited(end.count(2), self.waits[-1])
 
     def tk_get(self, signal):
         if signal >= self.inputs + len(self.gates):
             return REFUSED
         return told((self.ins + self.always())[signal])
 
+    def tk_when(self, signal):
+        if signal >= self.inputs + len(self.gates):
+            return REFUSED
+        if self.when is None:
+            return NO_WAIT
+        return NOT_TOLD if self.when[signal] == NEVER else timed(self.when[signal])
+
+    def way(self, signal):
+        if self.when[signal] == 0:
+            return [signal]
+        kind, a, b, most = self.gates[signal - self.inputs]
+        will_do = [source for source in ((a,) if kind == NOT else (a, b))
+                   if self.when[source] + most == self.when[signal]]
+        return [signal] + self.way(sorted(will_do)[0])
+
+    def tk_why(self, signal, room):
+        answer = self.tk_when(signal)
+        if answer[0] == 0:
+            return answer
+        found = self.way(signal)
+        return NO_ROOM if len(found) > room else way(*found)
+
+    def tk_longest(self):
+        return timed(max(self.waits, default=0))
+
 
 def ask_the_words(calls):
     words = Words()
+    others = (words.tk_set, words.tk_wait, words.tk_get, words.tk_when, words.tk_why, words.tk_longest)
     found = []
     for call in calls:
         if call[0] == 0:
             gates = [tuple(call[k:k + 4]) for k in range(5, len(call), 4)]
             found.append(REFUSED if call[3] == 0 else words.tk_start(call[1], gates))
-        elif call[0] == 1:
-            found.append(words.tk_set(call[1], call[2]))
-        elif call[0] == 2:
-            found.append(words.tk_wait())
         else:
-            found.append(words.tk_get(call[1]))
+            found.append(others[call[0] - 1](*call[1:]))
     return found

@@ -23,6 +23,15 @@ METHODS = ("append clear copy count endswith extend find get index insert items 
 WORDS = re.compile(r"\b(type|typing|typing_extensions|enum|Enum|IntEnum|StrEnum|Flag|IntFlag|Generic|Protocol|ABC|ABCMeta"
                    r"|namedtuple|NamedTuple|TypedDict|TYPE_CHECKING|abstractmethod)\b|dataclass|overload|contextmanager")
 
+NOT_USED = ("register elements open input version_info attrgetter breakpoint builtins compile delattr dir eval exec exit "
+            "gc getattr globals hasattr help id importlib locals methodcaller os quit setattr super type vars sys").split()
+
+OWN_OF_PYTHON = {name for kind in (str, int, list, dict, set, bytes, tuple) for name in dir(kind)}
+
+
+def methods_of(node):
+    return {part.name for part in node.body if isinstance(part, ast.FunctionDef)}
+
 
 def bound_names(tree):
     for node in ast.walk(tree):
@@ -86,6 +95,33 @@ class Form(unittest.TestCase):
         for name, node in self.nodes():
             if isinstance(node, ast.Call) and isinstance(node.func, ast.Attribute):
                 self.assertTrue(node.func.attr in METHODS or node.func.attr in own, (name, node.lineno))
+
+    def test_no_name_that_is_not_used(self):
+        for name, node in self.nodes():
+            used = getattr(node, "id", getattr(node, "attr", getattr(node, "arg", None)))
+            self.assertNotIn(used, NOT_USED, (name, getattr(node, "lineno", None)))
+
+    def test_is_beside_none_alone(self):
+        for name, node in self.nodes():
+            if isinstance(node, ast.Compare) and isinstance(node.ops[0], (ast.Is, ast.IsNot)):
+                self.assertIsInstance(node.comparators[0], ast.Constant, (name, node.lineno))
+
+    def test_texts_and_powers(self):
+        for name, node in self.nodes():
+            self.assertNotIsInstance(node, ast.Pow, name)
+            if isinstance(node, ast.Constant):
+                self.assertNotIsInstance(node.value, (float, complex, bytes), (name, node.lineno))
+                self.assertNotIn("%", str(node.value), (name, node.lineno))
+
+    def test_methods_and_values_of_objects(self):
+        methods, values = set(), set()
+        for name, node in self.nodes():
+            if isinstance(node, ast.ClassDef):
+                methods |= methods_of(node) - {"__init__"}
+            elif isinstance(node, ast.Attribute) and isinstance(node.ctx, ast.Store):
+                values.add(node.attr)
+        self.assertEqual(methods & values, set())
+        self.assertEqual((methods | values) & OWN_OF_PYTHON, set())
 
 
 if __name__ == "__main__":

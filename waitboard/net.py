@@ -1,4 +1,4 @@
-"""Gates and signals: what's always so, what's so in the end, and from when on.
+"""Gates and signals: what's always so, what's so in the end, from when on, and why then.
 
 Signals are numbered: the inputs from 0, then the gates in their order. A gate's place is its number among
 the gates alone.
@@ -24,6 +24,7 @@ class Net:
     def __init__(self, inputs, gates):
         self.inputs = inputs
         self.gates = gates
+        self.signals = inputs + len(gates)
         # Kept, so that only those gates are looked at again of which a signal has changed.
         self.users = find_users(inputs, gates)
 
@@ -128,3 +129,17 @@ def in_the_end(net, ins, always):
         rest.on[signal] = comes_to(net.gates[place], rest.on)
         note_the_sure(net, rest, agenda, rest.when[signal], net.users[signal])
     return rest
+
+
+def reason(gate, time, when):
+    # A source whose time is never can't be taken for one: never is below 0, and a gate's time isn't below its most.
+    return min([source for source in sources(gate) if when[source] + gate.most == time])
+
+
+def way_from(net, when, signal):
+    way = [signal]
+    # Each gate takes 1 at least, so the times fall along the way, and it ends.
+    while when[way[-1]] > 0:
+        gate = net.gates[way[-1] - net.inputs]
+        way.append(reason(gate, when[way[-1]], when))
+    return way
